@@ -1,0 +1,1 @@
+"""Whole-number operations of a processor, with all their flags."""
