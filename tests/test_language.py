@@ -156,9 +156,44 @@ def form_faults(node, row):
             yield f"L27 row {row}: an exponent that isn't written out"
 
 
+def own_imports(tree):
+    return [node for node in tree.body if isinstance(node, ast.ImportFrom)]
+
+
+def local_faults(tree):
+    """Parameters and locals that are called like a class or an import of their file (L15)."""
+    taken = {alias.asname or alias.name for node in own_imports(tree) for alias in node.names}
+    taken |= {node.name for node in tree.body if isinstance(node, ast.ClassDef)}
+    for node in ast.walk(tree):
+        name = node.arg if isinstance(node, ast.arg) else getattr(node, "id", None)
+        if name in taken and isinstance(getattr(node, "ctx", ast.Store()), ast.Store):
+            yield f"L15 row {node.lineno}: {name} is a class or an import of the file"
+
+
+def import_faults(trees):
+    """What is drawn from a file that doesn't define it, and files that draw from one another (L16); trees by module."""
+    drawn = {module: [node.module for node in own_imports(tree)] for module, tree in trees.items()}
+    for module, tree in trees.items():
+        for node in own_imports(tree):
+            source = trees.get(node.module, ast.Module([], [])).body
+            defined = {getattr(item, "name", None) for item in source}
+            defined |= {item.targets[0].id for item in source if isinstance(item, ast.Assign)}
+            for alias in node.names:
+                if alias.name not in defined:
+                    yield f"L16: {module} draws {alias.name} from {node.module}, which doesn't define it"
+        reached, ahead = set(), list(drawn[module])
+        while ahead:
+            other = ahead.pop()
+            if other not in reached:
+                reached.add(other)
+                ahead.extend(drawn.get(other, []))
+        if module in reached:
+            yield f"L16: {module} draws from itself in some steps"
+
+
 def faults(text, own_methods=()):
     tree = ast.parse(text)
-    found = list(text_faults(text)) + list(top_faults(tree))
+    found = list(text_faults(text)) + list(top_faults(tree)) + list(local_faults(tree))
     for node in ast.walk(tree):
         found.extend(node_faults(node, own_methods))
     return found
@@ -192,6 +227,11 @@ class ThePackage(unittest.TestCase):
                 self.assertEqual(faults(text, own_methods), [])
 
 
+    def test_its_imports(self):
+        trees = {f"wholeops.{path.stem}": ast.parse(path.read_bytes()) for path in package_files()}
+        self.assertEqual(list(import_faults(trees)), [])
+
+
 class TheCheckItself(unittest.TestCase):
     def test_it_takes_what_is_allowed(self):
         text = '"""A file."""\n\nA = (1, -2)\n\n\ndef f(x):\n    return [y for y in A if y < x]\n'
@@ -218,6 +258,21 @@ class TheCheckItself(unittest.TestCase):
         for rule, text in wrong.items():
             with self.subTest(rule=rule):
                 self.assertIn(rule, [fault.split()[0].rstrip(":") for fault in faults(text)])
+
+    def test_it_finds_names_that_are_taken(self):
+        for text in ("from wholeops.b import f\n\n\ndef g(f):\n    return 1\n",
+                     "from wholeops.b import f\n\n\ndef g(x):\n    f = x\n    return f\n"):
+            self.assertEqual(len(faults(text)), 1)
+
+    def test_it_finds_wrong_imports(self):
+        drawing = {"wholeops.a": "from wholeops.b import f\n", "wholeops.b": "from wholeops.c import f\n",
+                   "wholeops.c": "def f(x):\n    return x\n"}
+        trees = {module: ast.parse(text) for module, text in drawing.items()}
+        self.assertEqual(len(list(import_faults(trees))), 1)
+        trees["wholeops.b"] = ast.parse("from wholeops.c import g\n\n\ndef f(x):\n    return x\n")
+        trees["wholeops.c"] = ast.parse("from wholeops.a import h\n\n\ndef g(x):\n    return x\n")
+        trees["wholeops.a"] = ast.parse("from wholeops.b import f\n\nh = 1\n")
+        self.assertEqual(len(list(import_faults(trees))), 3)
 
 
 if __name__ == "__main__":

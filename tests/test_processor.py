@@ -1,4 +1,4 @@
-"""The calls set, get, flags and put, and the form of what answers takes and gives back."""
+"""The calls set, get, flags and put, and for all calls the form of what answers takes and gives back."""
 
 import builtins
 import contextlib
@@ -6,32 +6,12 @@ import io
 import unittest
 from unittest import mock
 
+from helper import (ALL_FLAGS, DO, FLAGS, GET, HOLDS, PLACES, PUT, RUN, SET, SIX_FLAGS, TOP, WRONG_PLACES,
+                    all_registers, each, every_choice_of_flags, flags, joined, run_of)
 from wholeops.processor import answers
 
-SET, GET, FLAGS, PUT = 0, 1, 2, 3
-TOP = 18446744073709551615
 NUMBERS = (0, 1, 2, 15, 16, 255, 256, 65535, 65536, 2147483647, 2147483648, 4294967295, 4294967296,
            9223372036854775807, 9223372036854775808, 12297829382473034410, TOP - 1, TOP)
-PLACES = range(16)
-WRONG_PLACES = (-1, 16, -2147483648, 2147483647, -2, -15, -16, -17, 17, 31, 32, 255, 256, 65536)
-SIX_FLAGS = (1, 4, 16, 64, 128, 2048)
-ALL_FLAGS = 2261
-
-
-def each(calls):
-    """The answers of a list of calls, each a list of its own."""
-    given = answers([number for call in calls for number in call])
-    split = []
-    at = 0
-    while at < len(given):
-        end = at + 1 + given[at]
-        split.append(given[at + 1:end])
-        at = end
-    return split
-
-
-def all_registers():
-    return [[GET, r] for r in PLACES]
 
 
 class Guarded(list):
@@ -116,8 +96,7 @@ class PutAndFlags(unittest.TestCase):
             self.assertEqual(answers([PUT, number, FLAGS]), [1, 0, 1, number])
 
     def test_every_choice_of_flags(self):
-        for choice in range(64):
-            number = sum(SIX_FLAGS[place] for place in range(6) if choice >> place & 1)
+        for number in every_choice_of_flags():
             self.assertEqual(answers([PUT, number, FLAGS]), [1, 0, 1, number])
 
     def test_all_together_and_none(self):
@@ -177,18 +156,63 @@ class TheList(unittest.TestCase):
         self.assertEqual(answers([SET, 15, TOP] * 79 + [GET, 15]), [1, 0] * 79 + [2, 0, TOP])
         self.assertEqual(answers([SET, 2, 3, GET, 2, PUT, 1, FLAGS] * 20), [1, 0, 2, 0, 3, 1, 0, 1, 1] * 20)
 
+    def test_the_whole_form_of_the_later_calls(self):
+        self.assertEqual(answers([4, 0, 4, 1, 4, 16]), [1, 0, 1, 1, 1, 2])
+        self.assertEqual(answers([5, 0, 8, 0, 0, 0, 5, 25, 8, 0, 0, 0, 5, 43, 8, 0, 0, 0]), [1, 0, 1, 1, 1, 2])
+        self.assertEqual(answers([6, 0, 6, 1, 0, 6, 5, 10, 8, 0, 0, 0, 6, 5, 25, 8, 0, 1, 1, 6, 5, 43, 8, 0, 0, 0]),
+                         [2, 0, 0, 1, 3, 2, 0, 1, 2, 1, 0, 2, 2, 0])
+
+    def test_lists_of_1_later_call(self):
+        self.assertEqual(answers([HOLDS, 15]), [1, 1])
+        self.assertEqual(answers([DO, 10, 8, 15, 15, 0]), [1, 0])
+        self.assertEqual(answers([RUN, 0]), [2, 0, 0])
+        self.assertEqual(answers([RUN, 400] + [10, 8, 15, 15, 0] * 80), [2, 0, 80])
+
+    def test_80_calls_of_all_seven_kinds(self):
+        ten = [([SET, 1, 254], [0]),
+               ([DO, 10, 1, 1, 0, 0], [0]),
+               ([FLAGS], None),
+               (run_of([10, 1, 1, 0, 0], [2, 2, 2, 1, 0]), [0, 2]),
+               ([HOLDS, 4], None),
+               ([GET, 1], [0, 0]),
+               ([DO, 25, 8, 2, 1, 1], [1]),
+               ([DO, 36, 2, 2, 1, 1], [2]),
+               ([PUT, 1], [0]),
+               ([RUN, 4, 0, 8, 0, 0], [3])]
+        calls, expected = [], []
+        for turn in range(8):
+            calls.extend(call for call, answer in ten)
+            expected.extend(list(answer) for call, answer in ten if answer is not None)
+            # C is set by the put before this turn, if there was one; register 2 gets 0 + C and isn't 0 then.
+            expected.insert(10 * turn + 2, [flags("CSP" if turn else "SP")])
+            expected.insert(10 * turn + 4, [0 if turn else 1])
+        self.assertEqual(len(calls), 80)
+        self.assertEqual(each(calls), expected)
+        self.assertEqual(each(calls), expected)
+
+    def test_the_longest_list(self):
+        more = [10, 8, 1, 0, 0]
+        calls = [run_of(*[more] * 39)] * 78 + [run_of(*[more] * 46), run_of(*[more] * 80)]
+        self.assertEqual((len(calls), len(joined(calls))), (80, 16000))
+        self.assertEqual(each(calls), [[0, 39]] * 78 + [[0, 46], [0, 80]])
+
     def test_arguments_are_not_taken_for_calls(self):
         calls = [[SET, 1, 3], [GET, 1], [SET, 2, 0], [SET, 3, 2], [GET, 2], [GET, 3], [PUT, 1], [FLAGS]]
         self.assertEqual(each(calls), [[0], [0, 3], [0], [0], [0, 0], [0, 2], [0], [1]])
 
     def test_answers_are_a_list_of_whole_numbers(self):
-        given = answers([SET, 0, 1, GET, 0, SET, 16, 1, GET, 16, PUT, 1, FLAGS])
+        calls = [[SET, 0, 1], [GET, 0], [SET, 16, 1], [GET, 16], [PUT, 1], [FLAGS], [HOLDS, 2], [HOLDS, 3], [HOLDS, 16],
+                 [DO, 36, 1, 0, 0, 2], [GET, 0], [DO, 25, 1, 0, 1, 2], [DO, 43, 1, 0, 0, 0],
+                 run_of([36, 1, 0, 0, 3], [25, 1, 0, 1, 2]), [GET, 0], [FLAGS], [RUN, 1, 0]]
+        given = answers(joined(calls))
         self.assertIs(type(given), list)
         for number in given:
             self.assertIs(type(number), int)
 
     def test_what_is_handed_in_stays_as_it_is(self):
-        calls = [SET, 3, 7, GET, 3, FLAGS, PUT, 4294967295, FLAGS, GET, 16, SET, -1, 4]
+        calls = joined([[SET, 3, 7], [GET, 3], [FLAGS], [PUT, 4294967295], [FLAGS], [GET, 16], [SET, -1, 4], [HOLDS, 5],
+                        [DO, 1, 4, 3, 3, 0], [DO, 25, 8, 3, 3, 3], [DO, 0, 3, 0, 0, 0], [RUN, 3, 1, 1, 1],
+                        run_of([10, 1, 3, 3, 0], [3, 2, 3, 3, 0], [25, 2, 3, 3, 3], [0, 1, 1, 1, 1])])
         before = list(calls)
         given = answers(calls)
         self.assertEqual(calls, before)
@@ -196,8 +220,10 @@ class TheList(unittest.TestCase):
         self.assertEqual(answers(Guarded(calls)), given)
 
     def test_nothing_is_kept(self):
-        calls = [GET, 4, FLAGS, SET, 4, 8, PUT, 64, GET, 4, FLAGS]
-        expected = [2, 0, 0, 1, 0, 1, 0, 1, 0, 2, 0, 8, 1, 64]
+        # 8 + 8 = 16, then 17 and 18: no flag but P is set, by 17 and by 18, which have two ones each.
+        calls = joined([[GET, 4], [FLAGS], [SET, 4, 8], [PUT, 64], [GET, 4], [FLAGS], [DO, 1, 1, 4, 4, 0], [GET, 4],
+                        run_of([10, 1, 4, 0, 0], [10, 1, 4, 0, 0]), [HOLDS, 10], [FLAGS], [GET, 4]])
+        expected = [2, 0, 0, 1, 0, 1, 0, 1, 0, 2, 0, 8, 1, 64, 1, 0, 2, 0, 16, 2, 0, 2, 1, 1, 1, 4, 2, 0, 18]
         first = answers(calls)
         self.assertEqual(first, expected)
         self.assertEqual(answers(calls), expected)
@@ -213,8 +239,9 @@ class TheList(unittest.TestCase):
         with contextlib.redirect_stdout(out), contextlib.redirect_stderr(err), \
                 mock.patch.object(builtins, "open", refuse), mock.patch.object(builtins, "input", refuse), \
                 mock.patch.object(builtins, "__import__", refuse):
-            given = answers([SET, 1, 2, GET, 1, PUT, 1, FLAGS, GET, 16])
-        self.assertEqual(given, [1, 0, 2, 0, 2, 1, 0, 1, 1, 1, 2])
+            given = answers([SET, 1, 2, GET, 1, PUT, 1, FLAGS, GET, 16, HOLDS, 2, DO, 10, 8, 1, 1, 0,
+                             RUN, 5, 23, 8, 1, 1, 0])
+        self.assertEqual(given, [1, 0, 2, 0, 2, 1, 0, 1, 1, 1, 2, 1, 1, 1, 0, 2, 0, 1])
         self.assertEqual(out.getvalue() + err.getvalue(), "")
 
 

@@ -1,62 +1,112 @@
 """One processor, sixteen registers and six flags, and the calls on it."""
 
+from wholeops.bits import ALL_FLAGS, cut
+from wholeops.conditions import condition_holds, is_condition
+from wholeops.operations import perform
+from wholeops.refusals import REGISTERS, is_place, is_refused
+
 SET = 0
 GET = 1
 FLAGS = 2
 PUT = 3
+HOLDS = 4
+DO = 5
+RUN = 6
 
-# By the call's number: how many whole numbers stand behind it.
-ARGUMENTS = (2, 1, 0, 1)
+# By the call's number: how many whole numbers stand behind it. Behind a run the first of them tells how many more do.
+ARGUMENTS = (2, 1, 0, 1, 1, 5, 1)
 
 DONE = 0
+TRAPPED = 1
 REFUSED = 2
+NOT_RECORDS = 3
 
-REGISTERS = 16
-
-# C 1, P 4, A 16, Z 64, S 128 and O 2048 together: no other bit stands for anything.
-ALL_FLAGS = 2261
-
-
-def is_place(r):
-    """Whether there is a register r; a list's own index would take -1 to -16 too."""
-    return 0 <= r < REGISTERS
+# How many numbers a record of a run has: op, size, d, s, n.
+RECORD = 5
 
 
 class Processor:
-    """What one list of calls is about. Its methods give back a call's answer, a new list."""
+    """What one list of calls is about."""
 
     def __init__(self):
         self.registers = [0] * REGISTERS
         self.flags = 0
 
-    def set_number(self, r, v):
-        if not is_place(r):
-            return [REFUSED]
-        self.registers[r] = v
-        return [DONE]
+    def low(self, r, width):
+        """The number of W bits that a register has."""
+        return cut(self.registers[r], width)
 
-    def get_number(self, r):
-        if not is_place(r):
-            return [REFUSED]
-        return [DONE, self.registers[r]]
+    def write(self, r, width, number):
+        """The register's other bits stay for 8 and 16 bits, and are 0 for 32."""
+        others = self.registers[r] - self.low(r, width) if width < 32 else 0
+        self.registers[r] = others + cut(number, width)
 
-    def get_flags(self):
-        return [self.flags]
-
-    def put_flags(self, number):
-        self.flags = number & ALL_FLAGS
-        return [DONE]
+    def operate(self, op, size, d, s, n):
+        """What the call do answers."""
+        if is_refused(op, size, d, s, n):
+            return REFUSED
+        return DONE if perform(self, op, 8 * size, d, s, n) else TRAPPED
 
 
-def answer_call(processor, call, arguments):
-    """Makes one call and gives back its answer."""
+def answer_set(processor, r, v):
+    if not is_place(r):
+        return [REFUSED]
+    processor.registers[r] = v
+    return [DONE]
+
+
+def answer_get(processor, r):
+    if not is_place(r):
+        return [REFUSED]
+    return [DONE, processor.registers[r]]
+
+
+def answer_put(processor, number):
+    processor.flags = number & ALL_FLAGS
+    return [DONE]
+
+
+def answer_holds(processor, condition):
+    if not is_condition(condition):
+        return [REFUSED]
+    return [1 if condition_holds(processor.flags, condition) else 0]
+
+
+def answer_run(processor, prog):
+    if len(prog) % RECORD != 0:
+        return [NOT_RECORDS]
+    done = 0
+    for at in range(0, len(prog), RECORD):
+        answer = processor.operate(prog[at], prog[at + 1], prog[at + 2], prog[at + 3], prog[at + 4])
+        if answer != DONE:
+            return [answer, done]
+        done += 1
+    return [DONE, done]
+
+
+def answer_call(processor, call, given):
+    """Makes one call, with the numbers that stand behind it, and gives back its answer, a new list."""
     if call == SET:
-        return processor.set_number(arguments[0], arguments[1])
+        return answer_set(processor, given[0], given[1])
     if call == GET:
-        return processor.get_number(arguments[0])
+        return answer_get(processor, given[0])
     if call == FLAGS:
-        return processor.get_flags()
-    return processor.put_flags(arguments[0])
+        return [processor.flags]
+    if call == PUT:
+        return answer_put(processor, given[0])
+    if call == HOLDS:
+        return answer_holds(processor, given[0])
+    if call == DO:
+        return [processor.operate(given[0], given[1], given[2], given[3], given[4])]
+    return answer_run(processor, given[1:])
+
+
+def call_end(calls, at):
+    """Where the call that begins at a place ends: the place behind its last number."""
+    end = at + 1 + ARGUMENTS[calls[at]]
+    if calls[at] == RUN:
+        return end + calls[at + 1]
+    return end
 
 
 def answers(calls):
@@ -65,9 +115,8 @@ def answers(calls):
     result = []
     at = 0
     while at < len(calls):
-        call = calls[at]
-        end = at + 1 + ARGUMENTS[call]
-        answer = answer_call(processor, call, calls[at + 1:end])
+        end = call_end(calls, at)
+        answer = answer_call(processor, calls[at], calls[at + 1:end])
         result.append(len(answer))
         result.extend(answer)
         at = end
